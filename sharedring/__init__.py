@@ -1,0 +1,1 @@
+"""A ring of messages shared with a device that may write anything."""

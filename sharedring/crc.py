@@ -1,0 +1,17 @@
+"""The sum that stands at the end of every slot."""
+
+ALL_ONES = 0xFFFFFFFF
+TURNED_POLYNOMIAL = 0x82F63B78
+
+
+def crc32c(data):
+    """Answer the CRC-32C of a list of bytes."""
+    c = ALL_ONES
+    for byte in data:
+        c = c ^ byte
+        for step in range(8):
+            fell_out = c & 1
+            c = c >> 1
+            if fell_out == 1:
+                c = c ^ TURNED_POLYNOMIAL
+    return c ^ ALL_ONES
