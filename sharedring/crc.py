@@ -1,4 +1,6 @@
-"""The sum that stands at the end of every slot."""
+"""The sum, which stands at the end of every slot too."""
+
+from sharedring.memory import number_bytes
 
 ALL_ONES = 0xFFFFFFFF
 TURNED_POLYNOMIAL = 0x82F63B78
@@ -15,3 +17,8 @@ def crc32c(data):
             if fell_out == 1:
                 c = c ^ TURNED_POLYNOMIAL
     return c ^ ALL_ONES
+
+
+def sum_bytes(data):
+    """Answer the CRC-32C of a list of bytes, as four bytes."""
+    return number_bytes(crc32c(data), 4)

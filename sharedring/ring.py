@@ -1,7 +1,8 @@
 """The calls on one new ring, and what they answer, as lists of whole numbers."""
 
 from sharedring.layout import new_ring
-from sharedring.operations import others_look, others_write, rg_begin, rg_look, rg_put, rg_take, rg_wait
+from sharedring.operations import others_look, others_write, rg_begin, rg_look, rg_mend, rg_put, rg_sound, rg_sum
+from sharedring.operations import rg_take, rg_wait
 from sharedring.reader import CallReader
 
 RG_BEGIN = 0
@@ -9,6 +10,9 @@ RG_PUT = 1
 RG_TAKE = 2
 RG_WAIT = 3
 RG_LOOK = 4
+RG_SOUND = 5
+RG_MEND = 6
+RG_SUM = 7
 OTHERS_WRITE = 8
 OTHERS_LOOK = 9
 
@@ -39,6 +43,12 @@ def one_call(ring, reader):
         return rg_wait(ring, reader.read_one())
     if call == RG_LOOK:
         return rg_look(ring, reader.read_one())
+    if call == RG_SOUND:
+        return rg_sound(ring)
+    if call == RG_MEND:
+        return rg_mend(ring)
+    if call == RG_SUM:
+        return rg_sum(reader.read_row())
     if call == OTHERS_WRITE or call == OTHERS_LOOK:
         return others_call(ring, reader, call)
     raise UnknownCall(f"no call has the number {call}")

@@ -1,6 +1,6 @@
 """A slot: 64 bytes that hold one message, its number and its sum."""
 
-from sharedring.crc import crc32c
+from sharedring.crc import sum_bytes
 from sharedring.memory import number_bytes, read_number
 
 SLOT_SIZE = 64
@@ -16,7 +16,13 @@ def make_slot(number, kind, data):
     """Answer the bytes of a slot that holds a sound message."""
     zeros = [0] * (MOST_DATA - len(data))
     summed = number_bytes(number, 8) + number_bytes(kind, 2) + number_bytes(len(data), 2) + data + zeros
-    return summed + number_bytes(crc32c(summed), 4)
+    return summed + sum_bytes(summed)
+
+
+def renumbered_slot(slot, number):
+    """Answer a slot that holds the message of a sound slot under another number."""
+    summed = number_bytes(number, 8) + slot[KIND_AT:SUM_AT]
+    return summed + sum_bytes(summed)
 
 
 def message_length(slot):
@@ -33,7 +39,7 @@ def is_sound(slot, number):
     for byte in slot[DATA_AT + length:SUM_AT]:
         if byte != 0:
             return False
-    return read_number(slot, SUM_AT, 4) == crc32c(slot[:SUM_AT])
+    return slot[SUM_AT:] == sum_bytes(slot[:SUM_AT])
 
 
 def tell_message(slot):

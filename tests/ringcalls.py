@@ -1,13 +1,39 @@
 """What the tests share: calls as lists, answers call by call, and slots made without the program's own code."""
 
+import functools
+import itertools
 import struct
+import unittest
 
 from sharedring.ring import answers
 
 RING_SIZE = 16448
+MOST_CALLS = 100
+MOST_NUMBERS = 30000
 NUMBERS_END = 1 << 64
 LOWEST = -2147483648
 HIGHEST = 2147483647
+
+
+def difference(told, expected):
+    """Where two values first differ, and how."""
+    if not isinstance(told, list) or not isinstance(expected, list):
+        return " is %r, not %r" % (told, expected)
+    for k, (one, other) in enumerate(zip(told, expected)):
+        if one != other:
+            return "[%d]" % k + difference(one, other)
+    return " has %d values, not %d" % (len(told), len(expected))
+
+
+class RingTest(unittest.TestCase):
+    """Tells where lists differ by itself: unittest's own way takes minutes for two whole rings."""
+
+    def setUp(self):
+        self.addTypeEqualityFunc(list, self.hold_lists)
+
+    def hold_lists(self, told, expected, msg=None):
+        if told != expected:
+            self.fail(self._formatMessage(msg, "what is told" + difference(told, expected)))
 
 
 def begin():
@@ -28,6 +54,18 @@ def wait(looks):
 
 def look(k):
     return [4, k]
+
+
+def sound():
+    return [5]
+
+
+def mend():
+    return [6]
+
+
+def sum_of(data):
+    return [7, len(data)] + list(data)
 
 
 def write(at, data):
@@ -54,6 +92,10 @@ def peek_numbers():
     return peek(0, 16)
 
 
+def peek_ring():
+    return peek(0, RING_SIZE)
+
+
 def numbers_told(head, tail):
     return list(struct.pack("<QQ", head, tail))
 
@@ -64,7 +106,10 @@ def place(number):
 
 def run(*calls):
     """Hand in the calls as one list; answer a list for each of them."""
-    told = answers([number for call in calls for number in call])
+    handed_in = [number for call in calls for number in call]
+    assert 1 <= len(calls) <= MOST_CALLS, "a list has 1 to 100 calls"
+    assert len(handed_in) <= MOST_NUMBERS, "a list has at most 30000 numbers"
+    told = answers(handed_in)
     split = []
     at = 0
     while at < len(told):
@@ -81,6 +126,11 @@ def turned(number, width):
 
 
 def reference_sum(data):
+    return sum_highest_first(bytes(data))
+
+
+@functools.lru_cache(maxsize=None)
+def sum_highest_first(data):
     """CRC-32C the other way round: the highest bit first, by the polynomial that isn't turned."""
     c = 0xFFFFFFFF
     for byte in data:
@@ -156,3 +206,53 @@ def damaged_slots(number):
     yield "the sum of all bits turned back", sound[:60] + [255 - byte for byte in sound[60:]]
     for at in range(64):
         yield "one bit of byte %d" % at, flipped(sound, at, at % 8)
+
+
+DAMAGED_WAYS = len(list(damaged_slots(0)))
+
+
+def noisy_ring(head, slots):
+    """The bytes of a ring in which these slots wait from head on; all else in it is noise."""
+    ring = [(k * 7 + k // 251 + 1) % 256 for k in range(RING_SIZE)]
+    ring[0:16] = numbers_told(head, (head + len(slots)) % NUMBERS_END)
+    return laid(ring, head, slots)
+
+
+def laid(ring, head, slots):
+    """A copy of the ring with these slots from message head on."""
+    changed = list(ring)
+    for k, one in enumerate(slots):
+        changed[place(head + k):place(head + k) + 64] = one
+    return changed
+
+
+def message(k):
+    """The kind and the bytes of the k-th message of a pattern, each of them another one."""
+    return 65535 - 200 * k, [(3 * k + j) % 256 for j in range(k % 49)]
+
+
+def pattern_slots(head, pattern):
+    """A slot for each sign of the pattern: a sound message where it is s, else one that is damaged in some way."""
+    slots = []
+    for k, sign in enumerate(pattern):
+        number = (head + k) % NUMBERS_END
+        slots.append(slot(number, *message(k)) if sign == "s" else damaged_slot(number, k))
+    return slots
+
+
+def damaged_slot(number, way):
+    """One of the damaged slots of message number; the next way is another one."""
+    return next(itertools.islice(damaged_slots(number), way % DAMAGED_WAYS, None))[1]
+
+
+# Heads whose slots or numbers go round within the messages that wait, and some where they don't.
+HEADS = (0, 1, 100, 250, 255, 256, 70000, (1 << 32) - 2, NUMBERS_END - 256, NUMBERS_END - 3, NUMBERS_END - 1)
+PATTERNS = (
+    "", "s", "d", "ss", "sd", "ds", "dd", "sss", "dss", "sds", "ssd", "dds", "sdd", "dsd", "sdsdsdsd", "dsdsdsds",
+    "ssssdddd", "ddddssss", "sdddddds", "dsssssssd", "ssdsssddsssssdssd")
+LONG_PATTERNS = (
+    "s" * 256, "d" * 256, "sd" * 128, "ds" * 128, "d" + "s" * 255, "s" * 255 + "d", "s" * 100 + "d" + "s" * 155,
+    "s" + "d" * 255, "d" * 255 + "s", "ssd" * 85 + "s", "s" * 128 + "d" * 128, "s" * 255, "ds" * 127 + "d")
+WRONG_NUMBERS = (
+    (0, 257), (1, 0), (0, NUMBERS_END - 1), (5, 1 << 63), (NUMBERS_END - 1, 256), (256, 255), (1 << 40, 3),
+    (NUMBERS_END - 200, 57), (0x0102030405060708, 0x0802030405060701))

@@ -2,11 +2,11 @@
 
 import unittest
 
-from tests.ringcalls import RING_SIZE, begin, look, message_told, numbers_told, peek, put, run, take, wait, write
-from tests.ringcalls import full_ring, peek_numbers, write_numbers
+from tests.ringcalls import RING_SIZE, RingTest, begin, full_ring, look, message_told, numbers_told, peek, peek_numbers
+from tests.ringcalls import put, run, take, wait, write, write_numbers
 
 
-class Begin(unittest.TestCase):
+class Begin(RingTest):
     def test_head_and_tail_are_0(self):
         told = run(put(1, [1]), put(2, [2]), take(), peek_numbers(), begin(), peek_numbers(), wait(0))
         self.assertEqual(told[3], numbers_told(1, 2))

@@ -2,11 +2,12 @@
 
 import unittest
 
-from tests.ringcalls import HIGHEST, LOWEST, NUMBERS_END, damaged_slots, full_message_told, full_ring, look, message_told
-from tests.ringcalls import numbers_told, peek, peek_numbers, place, put, run, slot, take, write, write_numbers
+from tests.ringcalls import HIGHEST, LOWEST, NUMBERS_END, RingTest, damaged_slots, full_message_told, full_ring, look
+from tests.ringcalls import message_told, numbers_told, peek, peek_numbers, place, put, run, slot, take, write
+from tests.ringcalls import write_numbers
 
 
-class Look(unittest.TestCase):
+class Look(RingTest):
     def test_the_k_th_that_waits(self):
         told = run(put(1, [1]), put(2, [2, 2]), put(3, []), look(2), look(0), look(1), look(0))
         self.assertEqual(told[3:], [

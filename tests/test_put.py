@@ -2,11 +2,11 @@
 
 import unittest
 
-from tests.ringcalls import NUMBERS_END, RING_SIZE, full_message_told, full_ring, look, message_told, numbers_told
-from tests.ringcalls import peek, peek_numbers, place, put, run, slot, take, wait, write, write_numbers
+from tests.ringcalls import NUMBERS_END, RING_SIZE, RingTest, full_message_told, full_ring, look, message_told
+from tests.ringcalls import numbers_told, peek, peek_numbers, place, put, run, slot, take, wait, write, write_numbers
 
 
-class Put(unittest.TestCase):
+class Put(RingTest):
     def test_the_slot_byte_by_byte(self):
         told = run(put(0x1234, [10, 20, 30]), peek(0, 192))
         head_and_tail = [0] * 8 + [1] + [0] * 7

@@ -2,12 +2,12 @@
 
 import unittest
 
-from tests.ringcalls import NUMBERS_END, damaged_slots, full_message_told, full_ring, message_told, numbers_told, peek
-from tests.ringcalls import peek_numbers, place, put, run, slot, take, wait, write, write_head, write_numbers
-from tests.ringcalls import write_tail
+from tests.ringcalls import NUMBERS_END, RingTest, damaged_slots, full_message_told, full_ring, message_told
+from tests.ringcalls import numbers_told, peek, peek_numbers, place, put, run, slot, take, wait, write, write_head
+from tests.ringcalls import write_numbers, write_tail
 
 
-class Take(unittest.TestCase):
+class Take(RingTest):
     def test_none_waits(self):
         self.assertEqual(run(take(), peek_numbers()), [[-1], numbers_told(0, 0)])
         self.assertEqual(run(put(1, [1]), take(), take(), peek_numbers())[2:], [[-1], numbers_told(1, 1)])

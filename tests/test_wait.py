@@ -2,11 +2,11 @@
 
 import unittest
 
-from tests.ringcalls import HIGHEST, LOWEST, NUMBERS_END, full_ring, numbers_told, peek, peek_numbers, put, run, take
-from tests.ringcalls import wait, write, write_numbers
+from tests.ringcalls import HIGHEST, LOWEST, NUMBERS_END, RingTest, full_ring, numbers_told, peek, peek_numbers, put
+from tests.ringcalls import run, take, wait, write, write_numbers
 
 
-class Wait(unittest.TestCase):
+class Wait(RingTest):
     def test_how_many_wait(self):
         told = run(wait(0), put(1, []), wait(0), put(1, []), wait(1000), take(), wait(5), take(), wait(1000))
         self.assertEqual(told[0::2], [[0], [1], [2], [1], [0]])
